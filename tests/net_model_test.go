@@ -68,14 +68,6 @@ func modelWalkOf(m impl.Msg) impl.Walk {
 	return impl.Walk{At: m.To, Imag: m.Imag, Left: m.Left, Succs: m.Hops}
 }
 
-func modelCanHand(n impl.Net, k int) bool {
-	if !modelGoodNet(n) || k < 0 || k >= len(n.Bag) {
-		return false
-	}
-	m := n.Bag[k]
-	return m.Kind != 1 || modelCanStep(n.Peers, m.Key, n.Ttl, modelWalkOf(m))
-}
-
 func modelHand(n impl.Net, k int) impl.Net {
 	m, c := n.Bag[k], modelTake(n, k)
 	if m.Kind != 1 {

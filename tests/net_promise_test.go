@@ -350,7 +350,10 @@ func TestPromise6FromAnyNet(t *testing.T) {
 			n := strayNet(p, 1000, 12, seed*31)
 			for k, m := range n.Bag {
 				next, ok := impl.HandOver(n, k)
-				if m.Kind != impl.MgFind || !ok {
+				if !ok {
+					t.Fatal("can not be handed over", netText(n), k)
+				}
+				if m.Kind != impl.MgFind {
 					continue
 				}
 				came := next.Bag[len(next.Bag)-1]
@@ -364,28 +367,30 @@ func TestPromise6FromAnyNet(t *testing.T) {
 }
 
 // A way of a thousand forwards, one message behind the other: up to Hops of
-// 1000 it goes on, and not any more.
+// 1000 it goes on; there it is found or spent.
 func TestUpToHopsOf1000(t *testing.T) {
 	p := modelIdeal(impl.Space{Bits: 4, Digit: 1}, []int{2, 5, 11}, 0)
-	for _, ttl := range []int{998, 999, 1000} {
-		n := modelNew(p, ttl)
+	for _, c := range []struct {
+		hops, ttl int
+		kinds     string
+		reply     impl.Reply
+	}{
+		{998, 998, "13", impl.Reply{Hops: 998}}, {998, 999, "113", impl.Reply{Hops: 999}}, {998, 1000, "1112", impl.Reply{Owner: 2, Hops: 1000, Found: true}},
+		{999, 998, "13", impl.Reply{Hops: 999}}, {999, 999, "13", impl.Reply{Hops: 999}}, {999, 1000, "113", impl.Reply{Hops: 1000}},
+		{1000, 998, "13", impl.Reply{Hops: 1000}}, {1000, 999, "13", impl.Reply{Hops: 1000}}, {1000, 1000, "13", impl.Reply{Hops: 1000}},
+	} {
+		n := modelNew(p, c.ttl)
 		n.Begun = []int{4}
-		n.Bag = []impl.Msg{{Kind: 1, Look: 4, To: 2, From: 2, Key: 1, Imag: 2, Left: 0, Hops: 998}}
-		kinds, hops := "", 0
-		for len(n.Bag) > 0 {
-			m := n.Bag[0]
-			kinds, hops = kinds+strconv.Itoa(m.Kind), m.Hops
+		n.Bag = []impl.Msg{{Kind: 1, Look: 4, To: 2, From: 2, Key: 1, Imag: 2, Left: 0, Hops: c.hops}}
+		kinds, ok := "", true
+		for ok && len(n.Bag) > 0 {
+			kinds += strconv.Itoa(n.Bag[0].Kind)
 			checkMoves(t, n)
-			next, ok := impl.HandOver(n, 0)
-			if !ok {
-				wantZeroNet(t, "HandOver", next, ok)
-				break
-			}
-			n = next
+			n, ok = impl.HandOver(n, 0)
 		}
-		want := map[int]string{998: "13", 999: "113", 1000: "111"}[ttl]
-		if kinds != want || hops != ttl || (len(n.Bag) == 0) != (ttl < 1000) {
-			t.Error(ttl, "got", kinds, hops, netText(n))
+		c.reply.Look, c.reply.Key = 4, 1
+		if !ok || kinds != c.kinds || len(n.Replies) != 1 || n.Replies[0] != c.reply {
+			t.Error(c.hops, c.ttl, "got", kinds, netText(n), ok)
 		}
 	}
 }

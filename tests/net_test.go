@@ -201,6 +201,16 @@ var handedOver = []struct {
 		impl.Msg{Kind: 1, To: 5, From: 2, Key: 12, Imag: 12, Hops: 1000}, impl.Reply{}},
 	{"up to Hops of 1000 by the Succ", 1000, impl.Msg{Kind: 1, To: 5, From: 2, Key: 12, Imag: 6, Hops: 999},
 		impl.Msg{Kind: 1, To: 11, From: 2, Key: 12, Imag: 6, Hops: 1000}, impl.Reply{}},
+	{"found at the peer itself with Hops of 1000", 1000, impl.Msg{Kind: 1, To: 5, From: 2, Key: 5, Imag: 3, Left: 2, Hops: 1000},
+		impl.Msg{Kind: 2, To: 2, From: 5, Key: 5, Imag: 5, Hops: 1000}, impl.Reply{}},
+	{"found at its Succ with Hops of 1000", 0, impl.Msg{Kind: 1, To: 11, From: 5, Key: 0, Imag: 11, Left: 4, Hops: 1000},
+		impl.Msg{Kind: 2, To: 5, From: 11, Key: 0, Imag: 2, Hops: 1000}, impl.Reply{}},
+	{"spent with Hops of 1000, ahead of the Point", 1000, impl.Msg{Kind: 1, To: 5, From: 2, Key: 12, Imag: 6, Left: 1, Hops: 1000},
+		impl.Msg{Kind: 3, To: 2, From: 5, Key: 12, Hops: 1000}, impl.Reply{}},
+	{"spent with Hops of 1000, ahead of the Succ", 1000, impl.Msg{Kind: 1, To: 5, From: 5, Key: 4, Imag: 12, Hops: 1000},
+		impl.Msg{Kind: 3, To: 5, From: 5, Key: 4, Hops: 1000}, impl.Reply{}},
+	{"spent with Hops of 1000 and a Ttl of 0", 0, impl.Msg{Kind: 1, To: 2, From: 11, Key: 6, Imag: 2, Left: 4, Hops: 1000},
+		impl.Msg{Kind: 3, To: 11, From: 2, Key: 6, Hops: 1000}, impl.Reply{}},
 	{"a reply that is found", 9, impl.Msg{Kind: 2, To: 11, From: 5, Key: 8, Imag: 11, Hops: 2},
 		impl.Msg{}, impl.Reply{Key: 8, Owner: 11, Hops: 2, Found: true}},
 	{"a reply that is found at 0", 9, impl.Msg{Kind: 2, To: 2, From: 2},
@@ -239,12 +249,8 @@ func checkMoves(t *testing.T, n impl.Net) {
 	t.Helper()
 	for k := range n.Bag {
 		next, ok := impl.HandOver(n, k)
-		if modelCanHand(n, k) {
-			if !ok || !sameNet(next, modelHand(n, k)) || !impl.GoodNet(next) {
-				t.Fatal(netText(n), "hand", k, "got", netText(next), ok)
-			}
-		} else {
-			wantZeroNet(t, "HandOver", next, ok)
+		if !ok || !sameNet(next, modelHand(n, k)) || !impl.GoodNet(next) {
+			t.Fatal(netText(n), "hand", k, "got", netText(next), ok)
 		}
 		next, ok = impl.LoseMsg(n, k)
 		if !ok || !sameNet(next, modelTake(n, k)) || !impl.GoodNet(next) {
@@ -268,6 +274,35 @@ func TestMovesOfNets(t *testing.T) {
 		}
 	}
 	checkMoves(t, sixLooks())
+}
+
+// A walk of Hops of 1000 has as many forwards as any Ttl at least: it is found
+// where the peer knows the owner, and else spent, whatever it still has Left.
+func TestHandOverOfHopsOf1000(t *testing.T) {
+	for _, p := range netPeers() {
+		ids := modelMembers(p)
+		for i, peer := range p.List {
+			from := ids[(i*3+1)%len(ids)]
+			for _, key := range []int{peer.Id, peer.Succ, oneDown(p.Space, peer.Succ), oneUp(p.Space, peer.Succ), oneUp(p.Space, peer.Id), oneDown(p.Space, peer.Id)} {
+				want := impl.Msg{Kind: 3, Look: 2, To: from, From: peer.Id, Key: key, Hops: 1000}
+				if key == peer.Id || modelInArc(p.Space, peer.Id, key, peer.Succ) {
+					want.Kind, want.Imag = 2, modelOwner(p.Space, ids, key)
+				}
+				for _, ttl := range []int{0, 1, 999, 1000} {
+					n := modelNew(p, ttl)
+					n.Begun = []int{1, 2, 3}
+					n.Bag = []impl.Msg{{Kind: 2, Look: 1, To: peer.Id, From: from, Hops: 1000},
+						{Kind: 1, Look: 2, To: peer.Id, From: from, Key: key, Imag: peer.Id, Left: p.Space.Bits / p.Space.Digit, Hops: 1000},
+						{Kind: 3, Look: 3, To: peer.Id, From: from, Hops: 1000}}
+					next, ok := impl.HandOver(n, 1)
+					if !ok || len(next.Bag) != 3 || !impl.SameMsg(next.Bag[2], want) {
+						t.Fatal(netText(n), "got", netText(next), ok, "want", msgText(want))
+					}
+					checkMoves(t, n)
+				}
+			}
+		}
+	}
 }
 
 // What goes comes behind all others, and these stay in their order.

@@ -159,25 +159,6 @@ func TestMovesOfNoMessage(t *testing.T) {
 	}
 }
 
-// A way with Hops of 1000 can not step, even where it would be found at once:
-// it can be lost, and all others be handed over.
-func TestHandOverOfHopsOf1000(t *testing.T) {
-	for _, p := range netPeers() {
-		id := p.List[0].Id
-		for _, key := range []int{id, p.List[0].Succ, oneDown(p.Space, id)} {
-			for _, ttl := range []int{0, 999, 1000} {
-				n := modelNew(p, ttl)
-				n.Begun = []int{1, 2, 3}
-				n.Bag = []impl.Msg{{Kind: 2, Look: 1, To: id, From: id, Hops: 1000}, {Kind: 1, Look: 2, To: id, From: id, Key: key, Imag: key, Hops: 1000},
-					{Kind: 3, Look: 3, To: id, From: id, Hops: 1000}}
-				next, ok := impl.HandOver(n, 1)
-				wantZeroNet(t, "HandOver", next, ok)
-				checkMoves(t, n)
-			}
-		}
-	}
-}
-
 func TestWrongAsks(t *testing.T) {
 	for _, p := range netPeers() {
 		ids := modelMembers(p)
